@@ -1,0 +1,1 @@
+"""Facts told one after the other, rules tried in order."""

@@ -1,0 +1,13 @@
+"""The numbers with which calls are refused."""
+
+TEXT_TOO_LONG = -1
+FAULTY_PROGRAM = -2
+NO_PROGRAM = -3
+NOT_A_FACT = -4
+BAG_HAS_FAILED = -5
+TOO_MUCH = -6
+LOG_IS_FULL = -7
+RUN_FAILS = -15
+RUN_ON_ITS_WAY = -17
+NO_RUN = -18
+MOST_OUT_OF_RANGE = -19
