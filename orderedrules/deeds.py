@@ -16,35 +16,48 @@ def is_use(rule, binding):
     return True
 
 
-def first_row(bag, rules, number, choices, row, binding):
-    """The first row of a deed that can be done, or None.
+def can_be_done(bag, rules, deed, binding):
+    """Whether a row whose facts gave this binding makes a deed that can be done."""
+    return not bag.failed and deed not in bag.remembered and is_use(rules[deed[0]], binding)
 
-    The row so far has this binding; choices has, for each head, the numbers that may
-    stand for it, rising, so that the rows are tried in the order of deeds.
+
+def matching_rows(bag, heads, choices):
+    """The rows of numbers that the heads match, each with its binding, in the order of deeds.
+
+    choices has, for each head, the numbers that may stand for it, rising.
     """
-    heads = rules[number].heads
-    if len(row) == len(heads):
-        can_be_done = (number, row) not in bag.remembered and is_use(rules[number], binding)
-        return row if can_be_done else None
-    for fact in choices[len(row)]:
-        if fact in row:
-            continue
-        tried = dict(binding)
-        if matches(heads[len(row)], bag.facts[fact], tried):
-            found = first_row(bag, rules, number, choices, row + (fact,), tried)
-            if found is not None:
-                return found
-    return None
+    rows = [((), {})]
+    for head, numbers in zip(heads, choices):
+        longer = []
+        for row, binding in rows:
+            for fact in numbers:
+                tried = dict(binding)
+                if fact not in row and matches(head, bag.facts[fact], tried):
+                    longer.append((row + (fact,), tried))
+        rows = longer
+    return rows
 
 
 def first_deed(bag, rules, number, fact, head):
     """The first deed of the rule that can be done with the fact at the head, or None."""
-    if bag.failed:
-        return None
-    choices = [bag.living for pattern in rules[number].heads]
+    heads = rules[number].heads
+    choices = [bag.living for pattern in heads]
     choices[head] = [fact]
-    row = first_row(bag, rules, number, choices, (), {})
-    return None if row is None else (number, row)
+    for row, binding in matching_rows(bag, heads, choices):
+        if can_be_done(bag, rules, (number, row), binding):
+            return (number, row)
+    return None
+
+
+def all_deeds(bag, rules):
+    """The deeds that can be done, in order."""
+    found = []
+    for number, rule in enumerate(rules):
+        choices = [bag.living for head in rule.heads]
+        for row, binding in matching_rows(bag, rule.heads, choices):
+            if can_be_done(bag, rules, (number, row), binding):
+                found.append((number, row))
+    return found
 
 
 def deed_answer(deed):

@@ -1,11 +1,11 @@
-"""The calls on one object. Each answers a list: its numbers, or a refusal alone."""
+"""The calls that change what is held. Each answers a list: its numbers, or a refusal alone."""
 
 from orderedrules.bag import Bag, copy_of, refusal_of_change, tell_fact
 from orderedrules.faults import faults_of
 from orderedrules.patterns import facts_in, lone_fact_in
 from orderedrules.programs import read_program
 from orderedrules.refusals import (
-    BAG_HAS_FAILED, FAULTY_PROGRAM, MOST_OUT_OF_RANGE, NO_PROGRAM, NO_RUN, NOT_A_FACT,
+    BAG_HAS_FAILED, FAULTY_PROGRAM, MOST_OUT_OF_RANGE, NO_RUN, NOT_A_FACT,
     RUN_FAILS, RUN_ON_ITS_WAY, TEXT_TOO_LONG,
 )
 from orderedrules.runs import HAS_FAILED, MOST_STEPS, NO_STEP_CAN_BE, do_step, first_task, go_on
@@ -36,8 +36,6 @@ def take_program(session, text):
 
 def refusal_of_telling(session, text, facts):
     """Why the facts that were found in the text can't be told; 0 if they can."""
-    if session.program is None:
-        return NO_PROGRAM
     if len(text) > LONGEST_TEXT:
         return TEXT_TOO_LONG
     if not facts:
@@ -106,20 +104,10 @@ def begin(session, text):
     return [0, number]
 
 
-def refusal_of_run(session):
-    """Why there is no run to give up; 0 if there is one."""
-    if session.program is None:
-        return NO_PROGRAM
-    if session.before is None:
-        return NO_RUN
-    return 0
-
-
 def refusal_of_going_on(session):
     """Why the run can't be gone on with; 0 if it can."""
-    refusal = refusal_of_run(session)
-    if refusal < 0:
-        return refusal
+    if session.before is None:
+        return NO_RUN
     if session.bag.failed:
         return BAG_HAS_FAILED
     return 0
@@ -154,9 +142,8 @@ def step_often(session, most):
 
 
 def give_up(session):
-    refusal = refusal_of_run(session)
-    if refusal < 0:
-        return [refusal]
+    if session.before is None:
+        return [NO_RUN]
     session.bag = session.before
     session.pile = []
     session.before = None

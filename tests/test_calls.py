@@ -4,13 +4,9 @@ import unittest
 
 from orderedrules.deeds import first_deed
 from orderedrules.session import Session, begin, give_up, step_often, step_once, take_program, tell, tell_all
-from tests.helper import as_bytes, ask
+from tests.helper import CLASH, COUNT, EUCLID, as_bytes, ask, ask_last
 
-EUCLID = "rule gcd { keep g(N); take g(M); if 0 < N, N <= M; put g(M - N); } rule done { take g(0); }"
-CLASH = "rule no { keep p(X), q(X); fail; }"
-# Counts a fact down to 0: so many deeds, one entry of the log each.
-COUNT = "rule count { take a(N); if 0 < N; put a(N - 1); }"
-# As above, but each deed gives 4 numbers for 2 entries of the log.
+# Counts a fact down to 0 as COUNT does, but each deed gives 4 numbers for 2 entries of the log.
 SPEND = "rule spend { take a(N); if 0 < N; put e, e, e, a(N - 1); } rule eat { take e, e, e; }"
 
 
@@ -20,10 +16,6 @@ def row(thing, count):
 
 def padded(text, length):
     return text + " " * (length - len(text))
-
-
-def last(*calls):
-    return ask(*calls)[-1]
 
 
 def held(session):
@@ -64,16 +56,16 @@ class Promise1Program(unittest.TestCase):
     def test_how_many_rules(self):
         for count in (0, 1, 2, 12):
             text = "".join("rule r%d { keep a; } level w%d 1;" % (number, number) for number in range(count))
-            self.assertEqual(last(("program", text)), [0, count])
+            self.assertEqual(ask_last(("program", text)), [0, count])
 
     def test_lengths(self):
         text = "rule r { keep a; }"
         for length, expected in ((2999, [0, 1]), (3000, [0, 1]), (3001, [-1]), (4000, [-1])):
-            self.assertEqual(last(("program", padded(text, length))), expected)
+            self.assertEqual(ask_last(("program", padded(text, length))), expected)
 
     def test_too_long_comes_ahead_of_a_fault(self):
-        self.assertEqual(last(("program", "!" * 3000)), [-2])
-        self.assertEqual(last(("program", "!" * 3001)), [-1])
+        self.assertEqual(ask_last(("program", "!" * 3000)), [-2])
+        self.assertEqual(ask_last(("program", "!" * 3001)), [-1])
 
     def test_a_new_program_begins_anew(self):
         before = [("program", CLASH), ("tellall", "p(1), q(2)"), ("begin", "q(1)"), ("steps", 100)]
@@ -103,84 +95,84 @@ class Promise2Tell(unittest.TestCase):
         self.assertEqual(ask(*calls)[1:], [[0, 0, 0, 4], [0, 1, 0, 4], [0, 2, 1, 6]])
 
     def test_one_fact_does_not_stand_for_two_heads(self):
-        self.assertEqual(last(("program", "rule r { keep a(X), a(Y); fail; }"), ("tell", "a(1)"))[0], 0)
-        self.assertEqual(last(("program", "rule r { keep a(X), a(Y); fail; }"), ("tellall", "a(1), a(1)")), [-15])
+        self.assertEqual(ask_last(("program", "rule r { keep a(X), a(Y); fail; }"), ("tell", "a(1)"))[0], 0)
+        self.assertEqual(ask_last(("program", "rule r { keep a(X), a(Y); fail; }"), ("tellall", "a(1), a(1)")), [-15])
 
     def test_a_remembered_deed_is_done_once(self):
         calls = [("program", "rule r { keep a(X), a(Y); put b; }"), ("tell", "a(1)"), ("tell", "a(1)"), ("tell", "a(2)")]
         self.assertEqual([answer[2] for answer in ask(*calls)[1:]], [0, 2, 4])
 
     def test_a_rule_that_only_keeps_is_remembered_too(self):
-        self.assertEqual(last(("program", "rule r { keep a; }"), ("tell", "a")), [0, 0, 1, 4])
+        self.assertEqual(ask_last(("program", "rule r { keep a; }"), ("tell", "a")), [0, 0, 1, 4])
 
     def test_a_deed_that_takes_is_not_remembered(self):
-        self.assertEqual(last(("program", "rule r { keep k; take a(N); if N < 9; put a(N + 1); }"),
+        self.assertEqual(ask_last(("program", "rule r { keep k; take a(N); if N < 9; put a(N + 1); }"),
                               ("tell", "k"), ("tell", "a(0)"))[2], 9)
 
     def test_a_put_worth_nothing_is_no_deed(self):
         program = "rule r { take a(X); put b, c(1 / X); }"
-        self.assertEqual(last(("program", program), ("tell", "a(0)")), [0, 0, 0, 3])
-        self.assertEqual(last(("program", program), ("tell", "a(1)"))[2], 1)
+        self.assertEqual(ask_last(("program", program), ("tell", "a(0)")), [0, 0, 0, 3])
+        self.assertEqual(ask_last(("program", program), ("tell", "a(1)"))[2], 1)
 
     def test_lengths(self):
         for length, expected in ((3000, 0), (3001, -1), (4000, -1)):
-            self.assertEqual(last(("program", ""), ("tell", padded("a", length)))[0], expected)
+            self.assertEqual(ask_last(("program", ""), ("tell", padded("a", length)))[0], expected)
 
     def test_sixteen_living_facts(self):
         full = [("program", COUNT), ("tellall", row("x", 15))]
-        self.assertEqual(last(*full, ("tell", "a(0)"))[0], 0)
-        self.assertEqual(last(*full, ("tell", "a(5)")), [0, 15, 5, 13])
-        self.assertEqual(last(*full, ("tell", "x"), ("tell", "x")), [-6])
+        self.assertEqual(ask_last(*full, ("tell", "a(0)"))[0], 0)
+        self.assertEqual(ask_last(*full, ("tell", "a(5)")), [0, 15, 5, 13])
+        self.assertEqual(ask_last(*full, ("tell", "x"), ("tell", "x")), [-6])
 
     def test_a_deed_that_is_too_much(self):
         program = ("program", "rule r { take a; put b, b, b; }")
-        self.assertEqual(last(program, ("tellall", row("x", 13)), ("tell", "a"))[0], 0)
-        self.assertEqual(last(program, ("tellall", row("x", 14)), ("tell", "a")), [-6])
+        self.assertEqual(ask_last(program, ("tellall", row("x", 13)), ("tell", "a"))[0], 0)
+        self.assertEqual(ask_last(program, ("tellall", row("x", 14)), ("tell", "a")), [-6])
         keeping = ("program", "rule r { keep a; put b; }")
-        self.assertEqual(last(keeping, ("tellall", row("x", 14)), ("tell", "a"))[0], 0)
-        self.assertEqual(last(keeping, ("tellall", row("x", 15)), ("tell", "a")), [-6])
+        self.assertEqual(ask_last(keeping, ("tellall", row("x", 14)), ("tell", "a"))[0], 0)
+        self.assertEqual(ask_last(keeping, ("tellall", row("x", 15)), ("tell", "a")), [-6])
 
     def test_three_hundred_numbers(self):
-        self.assertEqual(last(("program", SPEND), ("tellall", row("x", 3)), ("tell", "a(74)"))[:3], [0, 3, 148])
-        self.assertEqual(last(("program", SPEND), ("tellall", row("x", 4)), ("tell", "a(74)")), [-6])
-        self.assertEqual(last(("program", SPEND), ("tellall", row("x", 3)), ("tell", "a(74)"), ("tell", "x")), [-6])
-        self.assertEqual(last(("program", SPEND), ("tellall", row("x", 2)), ("tell", "a(74)"), ("tell", "x"))[:2], [0, 299])
+        self.assertEqual(ask_last(("program", SPEND), ("tellall", row("x", 3)), ("tell", "a(74)"))[:3], [0, 3, 148])
+        self.assertEqual(ask_last(("program", SPEND), ("tellall", row("x", 4)), ("tell", "a(74)")), [-6])
+        self.assertEqual(ask_last(("program", SPEND), ("tellall", row("x", 3)), ("tell", "a(74)"), ("tell", "x")), [-6])
+        self.assertEqual(ask_last(("program", SPEND), ("tellall", row("x", 2)), ("tell", "a(74)"), ("tell", "x"))[:2], [0, 299])
 
     def test_two_hundred_entries(self):
-        self.assertEqual(last(("program", COUNT), ("tell", "a(199)"))[:3], [0, 0, 199])
-        self.assertEqual(last(("program", COUNT), ("tell", "a(200)")), [-7])
-        self.assertEqual(last(("program", COUNT), ("tell", "a(199)"), ("tell", "x")), [-7])
-        self.assertEqual(last(("program", COUNT), ("tell", "a(198)"), ("tell", "x"))[:2], [0, 199])
+        self.assertEqual(ask_last(("program", COUNT), ("tell", "a(199)"))[:3], [0, 0, 199])
+        self.assertEqual(ask_last(("program", COUNT), ("tell", "a(200)")), [-7])
+        self.assertEqual(ask_last(("program", COUNT), ("tell", "a(199)"), ("tell", "x")), [-7])
+        self.assertEqual(ask_last(("program", COUNT), ("tell", "a(198)"), ("tell", "x"))[:2], [0, 199])
 
     def test_a_run_without_end(self):
-        self.assertEqual(last(("program", "rule r { take a; put a; }"), ("tell", "a")), [-7])
-        self.assertEqual(last(("program", "rule r { keep a(X); put a(X); }"), ("tell", "a(1)")), [-6])
+        self.assertEqual(ask_last(("program", "rule r { take a; put a; }"), ("tell", "a")), [-7])
+        self.assertEqual(ask_last(("program", "rule r { keep a(X); put a(X); }"), ("tell", "a(1)")), [-6])
 
     def test_too_much_comes_ahead_of_a_full_log(self):
         full = [("program", COUNT), ("tellall", row("x", 15)), ("tell", "a(184)")]
         self.assertEqual(ask(*full, ("tell", "x"))[2:], [[0, 15, 184, 371], [-6]])
         end = ("program", COUNT + "rule end { take a(0); put b, b; }")
-        self.assertEqual(last(end, ("tellall", row("x", 15)), ("tell", "a(184)")), [-6])
-        self.assertEqual(last(end, ("tellall", row("x", 14)), ("tell", "a(185)")), [-7])
+        self.assertEqual(ask_last(end, ("tellall", row("x", 15)), ("tell", "a(184)")), [-6])
+        self.assertEqual(ask_last(end, ("tellall", row("x", 14)), ("tell", "a(185)")), [-7])
 
     def test_whichever_comes_first_in_the_run(self):
         both = COUNT + "rule no { keep a(0); fail; }"
-        self.assertEqual(last(("program", both), ("tell", "a(198)")), [-15])
-        self.assertEqual(last(("program", both), ("tell", "a(199)")), [-7])
+        self.assertEqual(ask_last(("program", both), ("tell", "a(198)")), [-15])
+        self.assertEqual(ask_last(("program", both), ("tell", "a(199)")), [-7])
         early = "rule no { keep a; fail; } rule much { keep a; put " + row("b", 4) + "; }"
         late = "rule much { keep a; put " + row("b", 4) + "; } rule no { keep a; fail; }"
-        self.assertEqual(last(("program", early), ("tellall", row("x", 15)), ("tell", "a")), [-15])
-        self.assertEqual(last(("program", late), ("tellall", row("x", 15)), ("tell", "a")), [-6])
+        self.assertEqual(ask_last(("program", early), ("tellall", row("x", 15)), ("tell", "a")), [-15])
+        self.assertEqual(ask_last(("program", late), ("tellall", row("x", 15)), ("tell", "a")), [-6])
 
     def test_order_of_refusals(self):
         long = "a" + " " * 3000
         self.assertEqual(ask(("tell", long), ("tell", "X"), ("tell", "a")), [[-3]] * 3)
         way = [("program", ""), ("tellall", row("x", 15)), ("begin", "a")]
-        self.assertEqual(last(*way, ("tell", "X" * 3001)), [-1])
-        self.assertEqual(last(*way, ("tell", long)), [-1])
-        self.assertEqual(last(*way, ("tell", "X")), [-4])
-        self.assertEqual(last(*way, ("tell", "a")), [-17])
-        self.assertEqual(last(*way, ("step",), ("tell", "a")), [-6])
+        self.assertEqual(ask_last(*way, ("tell", "X" * 3001)), [-1])
+        self.assertEqual(ask_last(*way, ("tell", long)), [-1])
+        self.assertEqual(ask_last(*way, ("tell", "X")), [-4])
+        self.assertEqual(ask_last(*way, ("tell", "a")), [-17])
+        self.assertEqual(ask_last(*way, ("step",), ("tell", "a")), [-6])
 
     def test_a_run_that_fails_leaves_nothing(self):
         program = ("program", "rule two { keep p(X); put r(X); } " + CLASH)
@@ -193,19 +185,19 @@ class Promise2Tell(unittest.TestCase):
         self.assertEqual(tell(session, as_bytes("q(3)"))[:2], [0, 3])
 
     def test_a_failing_rule_is_no_deed_where_its_test_fails(self):
-        self.assertEqual(last(("program", "rule r { keep a(X); if X < 3; fail; }"), ("tell", "a(3)"))[0], 0)
-        self.assertEqual(last(("program", "rule r { keep a(X); if X < 3; fail; }"), ("tell", "a(2)")), [-15])
+        self.assertEqual(ask_last(("program", "rule r { keep a(X); if X < 3; fail; }"), ("tell", "a(3)"))[0], 0)
+        self.assertEqual(ask_last(("program", "rule r { keep a(X); if X < 3; fail; }"), ("tell", "a(2)")), [-15])
 
 
 class Promise3Tellall(unittest.TestCase):
     def test_one_after_the_other(self):
-        self.assertEqual(last(("program", EUCLID), ("tellall", "g(6), g(4)")), [0, 2, 4, 22])
+        self.assertEqual(ask_last(("program", EUCLID), ("tellall", "g(6), g(4)")), [0, 2, 4, 22])
         self.assertEqual(ask(("program", EUCLID), ("tellall", "g(6), g(4)"), ("tell", "x"))[-1][:2], [0, 5])
-        self.assertEqual(last(("program", EUCLID), ("tellall", "g(6)")), [0, 1, 0, 6])
+        self.assertEqual(ask_last(("program", EUCLID), ("tellall", "g(6)")), [0, 1, 0, 6])
 
     def test_same_as_tell(self):
         told = ask(("program", EUCLID), ("tell", "g(12)"), ("tell", "g(18)"), ("tell", "g(4)"))[1:]
-        whole = last(("program", EUCLID), ("tellall", "g(12),g(18),g(4)"))
+        whole = ask_last(("program", EUCLID), ("tellall", "g(12),g(18),g(4)"))
         self.assertEqual(whole, [0, 3, sum(answer[2] for answer in told), sum(answer[3] for answer in told)])
 
     def test_none_is_told_if_one_is_refused(self):
@@ -216,32 +208,32 @@ class Promise3Tellall(unittest.TestCase):
         self.assertEqual(ask(("program", COUNT), ("tellall", "a(199), x"), ("tell", "a(1)"))[1:], [[-7], [0, 0, 1, 5]])
 
     def test_sixteen(self):
-        self.assertEqual(last(("program", ""), ("tellall", row("x", 16))), [0, 16, 0, 16])
-        self.assertEqual(last(("program", ""), ("tellall", row("x", 17))), [-6])
+        self.assertEqual(ask_last(("program", ""), ("tellall", row("x", 16))), [0, 16, 0, 16])
+        self.assertEqual(ask_last(("program", ""), ("tellall", row("x", 17))), [-6])
 
     def test_what_is_no_such_text(self):
         for text in ("", ",", "a,", ",a", "a,,b", "a b", "a;b", "1", "a, 1", "a, X", "X, a", "a, b(X)", "a, b()", "a, ("):
-            self.assertEqual(last(("program", ""), ("tellall", text)), [-4])
+            self.assertEqual(ask_last(("program", ""), ("tellall", text)), [-4])
 
     def test_each_value_has_its_own_parts(self):
         value = "f(g(1, 2, 3), g(1, 2, 3), g(1, 2, h(3)))"
-        self.assertEqual(last(("program", ""), ("tellall", value + "," + value))[:2], [0, 2])
+        self.assertEqual(ask_last(("program", ""), ("tellall", value + "," + value))[:2], [0, 2])
 
     def test_lengths(self):
         for length, expected in ((3000, 0), (3001, -1), (4000, -1)):
-            self.assertEqual(last(("program", ""), ("tellall", padded("a, b", length)))[0], expected)
-        self.assertEqual(last(("program", ""), ("tellall", "a," * 1499 + "a")), [-6])
+            self.assertEqual(ask_last(("program", ""), ("tellall", padded("a, b", length)))[0], expected)
+        self.assertEqual(ask_last(("program", ""), ("tellall", "a," * 1499 + "a")), [-6])
 
     def test_many_facts_that_go(self):
-        self.assertEqual(last(("program", "rule r { take a; }"), ("tellall", row("a", 100))), [0, 100, 100, 200])
-        self.assertEqual(last(("program", "rule r { take a; }"), ("tellall", row("a", 101))), [-7])
+        self.assertEqual(ask_last(("program", "rule r { take a; }"), ("tellall", row("a", 100))), [0, 100, 100, 200])
+        self.assertEqual(ask_last(("program", "rule r { take a; }"), ("tellall", row("a", 101))), [-7])
 
     def test_order_of_refusals(self):
         self.assertEqual(ask(("tellall", " " * 3001), ("tellall", ""), ("tellall", "a")), [[-3]] * 3)
         way = [("program", CLASH), ("tellall", row("x", 14) + ", p(1)"), ("begin", "a")]
-        self.assertEqual(last(*way, ("tellall", " " * 3001)), [-1])
-        self.assertEqual(last(*way, ("tellall", "q(1), 1")), [-4])
-        self.assertEqual(last(*way, ("tellall", "q(1), x")), [-17])
+        self.assertEqual(ask_last(*way, ("tellall", " " * 3001)), [-1])
+        self.assertEqual(ask_last(*way, ("tellall", "q(1), 1")), [-4])
+        self.assertEqual(ask_last(*way, ("tellall", "q(1), x")), [-17])
 
 
 class Promise4Begin(unittest.TestCase):
@@ -258,26 +250,26 @@ class Promise4Begin(unittest.TestCase):
                          [[0, 0], [-17], [0, 3], [0, 1, 0, 1]])
 
     def test_too_much(self):
-        self.assertEqual(last(("program", ""), ("tellall", row("x", 15)), ("begin", "a")), [0, 15])
-        self.assertEqual(last(("program", ""), ("tellall", row("x", 16)), ("begin", "a")), [-6])
+        self.assertEqual(ask_last(("program", ""), ("tellall", row("x", 15)), ("begin", "a")), [0, 15])
+        self.assertEqual(ask_last(("program", ""), ("tellall", row("x", 16)), ("begin", "a")), [-6])
         spent = [("program", SPEND), ("tellall", row("x", 3)), ("tell", "a(74)")]
-        self.assertEqual(last(*spent, ("begin", "x")), [-6])
+        self.assertEqual(ask_last(*spent, ("begin", "x")), [-6])
 
     def test_a_full_log(self):
-        self.assertEqual(last(("program", COUNT), ("tell", "a(198)"), ("begin", "x")), [0, 199])
-        self.assertEqual(last(("program", COUNT), ("tell", "a(199)"), ("begin", "x")), [-7])
-        self.assertEqual(last(("program", COUNT), ("tellall", row("x", 15)), ("tell", "a(184)"), ("begin", "x")), [-6])
+        self.assertEqual(ask_last(("program", COUNT), ("tell", "a(198)"), ("begin", "x")), [0, 199])
+        self.assertEqual(ask_last(("program", COUNT), ("tell", "a(199)"), ("begin", "x")), [-7])
+        self.assertEqual(ask_last(("program", COUNT), ("tellall", row("x", 15)), ("tell", "a(184)"), ("begin", "x")), [-6])
 
     def test_order_of_refusals(self):
         self.assertEqual(ask(("begin", " " * 3001), ("begin", "1"), ("begin", "a")), [[-3]] * 3)
         way = [("program", ""), ("tellall", row("x", 15)), ("begin", "a")]
-        self.assertEqual(last(*way, ("begin", " " * 3001)), [-1])
-        self.assertEqual(last(*way, ("begin", "a, b")), [-4])
-        self.assertEqual(last(*way, ("begin", "b")), [-17])
+        self.assertEqual(ask_last(*way, ("begin", " " * 3001)), [-1])
+        self.assertEqual(ask_last(*way, ("begin", "a, b")), [-4])
+        self.assertEqual(ask_last(*way, ("begin", "b")), [-17])
 
     def test_lengths(self):
         for length, expected in ((3000, 0), (3001, -1), (4000, -1)):
-            self.assertEqual(last(("program", ""), ("begin", padded("a", length)))[0], expected)
+            self.assertEqual(ask_last(("program", ""), ("begin", padded("a", length)))[0], expected)
 
     def test_a_refused_begin_is_not_on_its_way(self):
         self.assertEqual(ask(("program", ""), ("begin", "X"), ("step",), ("tell", "a"))[1:], [[-4], [-18], [0, 0, 0, 1]])
@@ -382,11 +374,11 @@ class Promise6Steps(unittest.TestCase):
 
     def test_at_rest_comes_ahead_of_the_count(self):
         for most, why in ((5, 0), (6, 1), (7, 1), (20000, 1)):
-            self.assertEqual(last(("program", EUCLID), ("begin", "g(6)"), ("steps", most)), [0, min(most, 6), 0, why])
+            self.assertEqual(ask_last(("program", EUCLID), ("begin", "g(6)"), ("steps", most)), [0, min(most, 6), 0, why])
 
     def test_failed_comes_ahead_of_the_count(self):
         for most, expected in ((1, [0, 1, 0, 0]), (2, [0, 2, 1, 2]), (3, [0, 2, 1, 2])):
-            self.assertEqual(last(("program", CLASH), ("tell", "p(1)"), ("begin", "q(1)"), ("steps", most)), expected)
+            self.assertEqual(ask_last(("program", CLASH), ("tell", "p(1)"), ("begin", "q(1)"), ("steps", most)), expected)
 
     def test_the_count_comes_ahead_of_what_cannot_be(self):
         calls = [("program", "rule r { take a; put b, b; }"), ("tellall", row("x", 15)), ("begin", "a")]
@@ -395,22 +387,22 @@ class Promise6Steps(unittest.TestCase):
     def test_same_as_tell(self):
         told = [("program", EUCLID), ("tell", "g(48)"), ("tell", "g(18)")]
         begun = [("program", EUCLID), ("tell", "g(48)"), ("begin", "g(18)"), ("steps", 20000)]
-        answer = last(*told)
-        self.assertEqual(last(*begun), [0, answer[3], answer[2], 1])
-        self.assertEqual(last(*told, ("tell", "g(30)")), last(*begun, ("tell", "g(30)")))
+        answer = ask_last(*told)
+        self.assertEqual(ask_last(*begun), [0, answer[3], answer[2], 1])
+        self.assertEqual(ask_last(*told, ("tell", "g(30)")), ask_last(*begun, ("tell", "g(30)")))
 
     def test_most(self):
         begun = [("program", EUCLID), ("begin", "g(6)")]
         for most in (-1, 20001, -10 ** 18, 10 ** 18):
             self.assertEqual(ask(*begun, ("steps", most), ("steps", 6))[2:], [[-19], [0, 6, 0, 1]])
         for most in (0, 1, 20000):
-            self.assertEqual(last(*begun, ("steps", most))[0], 0)
+            self.assertEqual(ask_last(*begun, ("steps", most))[0], 0)
 
     def test_order_of_refusals(self):
         self.assertEqual(ask(("steps", -1), ("program", ""), ("steps", -1)), [[-3], [0, 0], [-18]])
         failed = [("program", CLASH), ("tell", "p(1)"), ("begin", "q(1)"), ("steps", 9)]
         for most in (-1, 0, 9, 20001):
-            self.assertEqual(last(*failed, ("steps", most)), [-5])
+            self.assertEqual(ask_last(*failed, ("steps", most)), [-5])
 
 
 class Promise7Quit(unittest.TestCase):
@@ -457,7 +449,7 @@ class Promise7Quit(unittest.TestCase):
 
     def test_the_log_comes_back(self):
         calls = [("program", COUNT), ("begin", "a(200)"), ("steps", 20000), ("quit",), ("tell", "a(199)")]
-        self.assertEqual(last(*calls)[:3], [0, 0, 199])
+        self.assertEqual(ask_last(*calls)[:3], [0, 0, 199])
 
     def test_after_failing(self):
         calls = [("program", CLASH), ("tell", "p(1)"), ("begin", "q(1)"), ("steps", 9), ("quit",), ("tell", "q(2)")]

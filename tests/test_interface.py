@@ -11,7 +11,10 @@ from tests.helper import ask, decode, encode
 CALLS = [
     ("tell", "a"), ("program", "rule no { keep p(X), q(X); fail; } rule r { keep a(X); take b(X); put c(X), d; }"),
     ("tellall", "a(1), p(1)"), ("tell", "q(1)"), ("begin", "b(1)"), ("step",), ("steps", 4), ("tell", "a"), ("quit",),
-    ("begin", "b(1)"), ("steps", 20000), ("step",), ("tell", "X"), ("program", "rule"), ("tell", "a(1)"),
+    ("begin", "b(1)"), ("steps", 20000), ("step",), ("tell", "X"), ("program", "rule"), ("tell", "a(1)"), ("begin", "b(1)"),
+    ("pile",), ("next", 6, 1, 1), ("next", -1, 0, 0), ("bag",), ("fact", 6), ("deeds",), ("log",), ("status",), ("step",),
+    ("pile",), ("next", 6, 1, 1), ("bag",), ("fact", 7), ("deeds",), ("log",), ("status",), ("begin", "q(1)"), ("quit",),
+    ("begin", "q(1)"), ("steps", 9), ("pile",), ("deeds",), ("log",), ("status",),
 ]
 
 
@@ -32,6 +35,15 @@ class Interface(unittest.TestCase):
     def test_calls_in_one_list(self):
         row = [3, 1, 97, 4, 5, 7, 6, 0, 0, 2, 3, 97, 44, 98, 3, 1, 97, 5, 1, 6]
         self.assertEqual(orderedrules.desk.answers(row), [1, -3, 1, -3, 1, -3, 1, -3, 2, 0, 0, 4, 0, 2, 0, 2, 2, 0, 2, 4, 0, 1, 0, 1, 1, -18])
+
+    def test_questions_in_one_list(self):
+        row = [0, 0, 7, 8, 0, 0, 0, 9, 10, 0, 11, 12, 13, 3, 4, 97, 40, 45, 41, 3, 1, 97, 7, 8, 0, -1, 5, 9, 10, 0, 11, 12, 13]
+        self.assertEqual(orderedrules.desk.answers(row), [
+            2, 0, 0, 2, 0, 0, 1, -8, 1, 0, 1, -8, 2, 0, 0, 1, 0, 7, 0, 0, 0, 0, 0, 0, 0, 1, -4, 2, 0, 0,
+            5, 0, 1, 0, 0, 0, 1, -9, 4, 0, 0, 1, 97, 3, 0, 1, 97, 2, 0, 0, 3, 0, 0, 0, 7, 0, 1, 1, 1, 0, 0, 1])
+
+    def test_questions_without_a_program(self):
+        self.assertEqual(orderedrules.desk.answers([7, 8, 1, 2, 3, 9, 10, 4, 11, 12, 13]), [1, -3] * 7)
 
     def test_empty_texts(self):
         self.assertEqual(orderedrules.desk.answers([0, 0, 1, 0, 2, 0, 3, 0]), [2, 0, 0, 1, -4, 1, -4, 1, -4])

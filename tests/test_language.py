@@ -30,6 +30,7 @@ NO_NAMES = """register mro elements open input version_info with_traceback add_n
     quit setattr super type vars sys format format_map chr print""".split()
 
 WALKED = ("zip", "enumerate", "reversed", "range")
+WALKING = ("list", "tuple", "dict", "sorted", "sum", "any", "all", "enumerate", "zip")
 
 
 def walk(kind):
@@ -191,6 +192,9 @@ class Language(unittest.TestCase):
         walked = set()
         for name, node in walk((ast.For, ast.comprehension)):
             walked.add((name, ast.dump(node.iter)))
+        for name, node in walk(ast.Call):
+            if isinstance(node.func, ast.Name) and node.func.id in WALKING and node.args:
+                walked.add((name, ast.dump(node.args[0])))
         for name, node in walk(ast.Call):
             called = node.func.id if isinstance(node.func, ast.Name) else node.func.attr
             if called in WALKED or called in ("items", "keys", "values"):

@@ -507,6 +507,66 @@ class Model:
         self.held, self.before = self.before, None
         return [0]
 
+    def pile(self):
+        if self.rules is None:
+            return [-3]
+        return [0, len(self.held["pile"])] + [number for task in self.held["pile"] for number in task]
+
+    def next(self, fact, number, head):
+        if self.rules is None:
+            return [-3]
+        if not any(fact == living for living in self.held["living"]):
+            return [-8]
+        if number not in range(len(self.rules)):
+            return [-9]
+        if head not in range(len(self.rules[number].heads)):
+            return [-20]
+        found = None if self.held["failed"] else self.search(number, fact, head)
+        return [1] if found is None else [0, number, len(found[0]), *found[0]]
+
+    def bag(self):
+        if self.rules is None:
+            return [-3]
+        answer = [0]
+        for number, fact in enumerate(self.held["facts"]):
+            if number in self.held["living"]:
+                answer += [number, len(form(fact)), *as_bytes(form(fact))]
+        return answer
+
+    def fact(self, number):
+        if self.rules is None:
+            return [-3]
+        for given, fact in enumerate(self.held["facts"]):
+            if given == number:
+                return [0, int(number in self.held["living"]), *as_bytes(form(fact))]
+        return [-8]
+
+    def deeds(self):
+        if self.rules is None:
+            return [-3]
+        held, found = self.held, []
+        for number, rule in enumerate(self.rules):
+            for row in itertools.permutations(held["living"], len(rule.heads)):
+                if use_of(rule, [held["facts"][n] for n in row]) is not None and (number, row) not in held["memory"]:
+                    found.append((number, len(row), *row))
+        found = [] if held["failed"] else sorted(found)
+        return [0, len(found), *itertools.chain(*found[:100])]
+
+    def log(self):
+        if self.rules is None:
+            return [-3]
+        answer = [0]
+        for first, second in self.held["log"]:
+            answer += [0, second] if first == "told" else [1, first, len(second), *second]
+        return answer
+
+    def status(self):
+        if self.rules is None:
+            return [-3]
+        held = self.held
+        counts = [len(held[name]) for name in ("living", "facts", "log", "memory")]
+        return [0, *counts, int(held["failed"]), int(self.before is not None)]
+
 
 def model_answers(calls):
     model = Model()
@@ -653,7 +713,17 @@ class LivelyMaker(Maker):
     def lively_program(self):
         return " ".join(self.lively_rule(number) for number in range(self.chance.choice([1, 2, 2, 3, 4, 12])))
 
+    def wild(self, most):
+        return self.chance.choice([-1, -10 ** 18, 10 ** 18]) if self.rare(12) else self.chance.randint(0, most)
+
+    def question(self):
+        name = self.chance.choice("pile next next next bag fact deeds log status".split())
+        given = {"next": (8, 2, 2), "fact": (12,)}.get(name, ())
+        return (name, *[self.wild(most) for most in given])
+
     def call(self):
+        if self.rare(2):
+            return self.question()
         name = self.chance.choice("tell tell tell tellall begin begin step step step steps steps quit".split())
         if name in ("tell", "begin", "tellall"):
             text = self.lively_fact()
@@ -667,9 +737,9 @@ class LivelyMaker(Maker):
     def calls(self):
         calls = [] if not self.rare(9) else [self.call()]
         calls.append(("program", self.lively_program()))
-        for _ in range(self.chance.choice([5, 20, 40])):
+        for _ in range(self.chance.choice([10, 40, 80])):
             calls.append(self.call())
-            if self.rare(60):
+            if self.rare(120):
                 calls.append(("program", self.program()))
         return calls
 
